@@ -1,0 +1,154 @@
+"""The names, arguments and kinds of values that the interface lists, and what holds of all functions."""
+
+import ast
+import copy
+import importlib
+import inspect
+import os
+import subprocess
+import sys
+import unittest
+
+from corestore.leads import is_lead, lead, same
+from corestore.stores import is_store, plain, renamed, unknowns
+from helper import S
+
+ROOT = os.path.dirname(os.path.dirname(os.path.abspath(__file__)))
+PACKAGE = os.path.join(ROOT, "corestore")
+
+FUNCTIONS = {
+    "stores": {"is_store": ["value"], "unknowns": ["store"], "renamed": ["store", "pairs"], "plain": ["store"]},
+    "leads": {"lead": ["one", "other"], "is_lead": ["one", "other", "value"], "same": ["one", "other"]},
+}
+CLASSES = {
+    "errors": {"CoreError": None, "Clash": [], "BadSource": [], "BadFact": ["value"], "NoFact": ["value"],
+               "NothingDone": [], "BadText": ["line", "word"]},
+}
+
+EVE = (("has", "eve", "ann"), ("in", "eve", "rome"))
+PAIRS = (("?3", "eve"), ("?7", "eve"))
+# Each function with its arguments, what they are called, and what it returns for them.
+CALLS = (
+    (is_store, (S,), ("value",), True),
+    (unknowns, (S,), ("store",), ("?3", "?7")),
+    (renamed, (S, PAIRS), ("store", "pairs"), EVE),
+    (plain, (S,), ("store",), (("has", "?1", "ann"), ("has", "?2", "ann"), ("in", "?1", "rome"))),
+    (lead, (S, EVE), ("one", "other"), PAIRS),
+    (is_lead, (S, EVE, PAIRS), ("one", "other", "value"), True),
+    (same, (S, EVE), ("one", "other"), False),
+)
+
+
+def package_files():
+    """The names of the files of the package."""
+    return sorted(name for name in os.listdir(PACKAGE) if name != "__pycache__")
+
+
+def tree_of(name):
+    """The parsed text of a file of the package."""
+    with open(os.path.join(PACKAGE, name), encoding="ascii") as file:
+        return ast.parse(file.read())
+
+
+class InterfaceTest(unittest.TestCase):
+    def test_functions_stand_in_their_files_with_their_arguments(self):
+        for module, functions in FUNCTIONS.items():
+            there = {node.name for node in tree_of(module + ".py").body if isinstance(node, ast.FunctionDef)}
+            for name, arguments in functions.items():
+                self.assertIn(name, there)
+                function = getattr(importlib.import_module("corestore." + module), name)
+                parameters = list(inspect.signature(function).parameters.values())
+                self.assertEqual([parameter.name for parameter in parameters], arguments, name)
+                for parameter in parameters:
+                    self.assertIs(parameter.kind, inspect.Parameter.POSITIONAL_OR_KEYWORD)
+                    self.assertIs(parameter.default, inspect.Parameter.empty)
+
+    def test_classes_stand_in_their_files(self):
+        for module, classes in CLASSES.items():
+            there = {node.name for node in tree_of(module + ".py").body if isinstance(node, ast.ClassDef)}
+            self.assertEqual(there, set(classes))
+            for name, fields in classes.items():
+                kind = getattr(importlib.import_module("corestore." + module), name)
+                if fields:
+                    self.assertEqual(list(inspect.signature(kind).parameters), fields)
+
+    def test_the_package_is_one_folder_of_files(self):
+        self.assertIn("__init__.py", package_files())
+        for name in package_files():
+            self.assertTrue(name.endswith(".py"), name)
+            self.assertFalse(name.startswith("test"), name)
+
+    def test_each_file_can_be_imported_by_itself(self):
+        for name in package_files():
+            command = [sys.executable, "-W", "error", "-c", "import corestore." + name[:-3]]
+            done = subprocess.run(command, cwd=ROOT, capture_output=True, text=True)
+            self.assertEqual((done.returncode, done.stdout, done.stderr), (0, "", ""), name)
+
+    def test_sizes_and_characters_of_the_files(self):
+        for name in package_files():
+            with open(os.path.join(PACKAGE, name), encoding="ascii") as file:
+                text = file.read()
+            self.assertNotIn("\t", text)
+            self.assertLess(len(text.split("\n")), 400)
+            self.assertLessEqual(max(len(line) for line in text.split("\n")), 120)
+            for node in ast.walk(ast.parse(text)):
+                if isinstance(node, ast.FunctionDef):
+                    self.assertLessEqual(node.end_lineno - node.lineno + 1, 40, node.name)
+
+    def test_files_import_only_from_the_package(self):
+        for name in package_files():
+            for node in ast.walk(tree_of(name)):
+                self.assertNotIsInstance(node, ast.Import)
+                if isinstance(node, ast.ImportFrom):
+                    self.assertEqual(node.module.split(".")[0], "corestore")
+
+
+class GeneralTest(unittest.TestCase):
+    def test_by_position_and_by_name_in_another_order(self):
+        for function, arguments, names, answer in CALLS:
+            self.assertEqual(function(*arguments), answer, function)
+            by_name = dict(reversed(list(zip(names, arguments))))
+            self.assertEqual(function(**by_name), answer, function)
+            self.assertEqual(function(arguments[0], **dict(list(zip(names, arguments))[1:])), answer, function)
+
+    def test_the_same_call_returns_the_same_answer(self):
+        for function, arguments, _, answer in CALLS:
+            for _ in range(3):
+                self.assertEqual(function(*arguments), answer)
+
+    def test_no_argument_is_changed(self):
+        for function, arguments, _, _ in CALLS:
+            before = copy.deepcopy(arguments)
+            function(*arguments)
+            self.assertEqual(arguments, before, function)
+
+    def test_kinds_of_answers(self):
+        for function, arguments, _, answer in CALLS:
+            self.assertIs(type(function(*arguments)), type(answer), function)
+        for result in (renamed(S, PAIRS), plain(S), lead(S, EVE)):
+            self.assertTrue(all(type(part) is tuple for part in result))
+
+    def test_a_later_change_to_an_argument_changes_no_other_answer(self):
+        value = [("?3", "eve"), ("?7", "eve")]
+        self.assertIs(is_lead(S, EVE, value), False)
+        value.clear()
+        self.assertIs(is_lead(S, EVE, value), False)
+        self.assertIs(is_lead(S, EVE, PAIRS), True)
+        self.assertIs(is_store(value), False)
+
+    def test_answers_do_not_depend_on_how_python_hashes(self):
+        program = (
+            "from corestore.stores import *; from corestore.leads import *;"
+            "s = tuple(sorted(('by', '?%d' % k, '?%d' % ((k * 7) % 5 + 1)) for k in range(1, 6)));"
+            "print(unknowns(s), renamed(s, (('?1', 'a'), ('?2', '?1'))), plain(s), lead(s, s), same(s, plain(s)))")
+        shown = set()
+        for seed in ("0", "1", "2", "77"):
+            done = subprocess.run([sys.executable, "-c", program], cwd=ROOT, capture_output=True, text=True,
+                                  env=dict(os.environ, PYTHONHASHSEED=seed))
+            self.assertEqual(done.stderr, "")
+            shown.add(done.stdout)
+        self.assertEqual(len(shown), 1)
+
+
+if __name__ == "__main__":
+    unittest.main()
