@@ -1,6 +1,6 @@
 """Leads of a store into another one."""
 
-from corestore.stores import fact_by, is_pair, is_unknown, knots, plain, unknowns
+from corestore.stores import fact_by, is_open, is_pair, knots, plain, unknowns
 
 
 def lead(one, other):
@@ -8,7 +8,7 @@ def lead(one, other):
     table = {}
     # Knots have no unknown in common: none of them can spoil what was found for another one.
     for knot in knots(one):
-        table = widened(table, [(fact, goals(fact, other, table)) for fact in knot])
+        table = widened(table, choices_for(knot, other, table))
         if table is None:
             return None
     return tuple(sorted(table.items()))
@@ -17,19 +17,40 @@ def lead(one, other):
 def widened(table, choices):
     """The table, widened so that it leads each fact to one of its goals; None if there is no way.
 
-    The choices are pairs of a fact and the list of its goals that fit the table.
+    The choices are pairs of a fact or an atom and the list of its goals that fit the table.
     """
     if not choices:
         return table
     # The fact with the fewest goals goes first: a fact without any ends the search at once.
     fact, row = min(choices, key=lambda choice: len(choice[1]))
-    rest = [(later, aims) for later, aims in choices if later != fact]
     for goal in row:
         wider = with_goal(table, fact, goal)
-        found = widened(wider, [(later, goals(later, aims, wider)) for later, aims in rest])
+        found = widened(wider, choices_left(choices, fact, wider))
         if found is not None:
             return found
     return None
+
+
+def all_widened(table, choices):
+    """All tables that come by widening the table so that it leads each fact to one of its goals."""
+    if not choices:
+        return [table]
+    fact, row = min(choices, key=lambda choice: len(choice[1]))
+    found = []
+    for goal in row:
+        wider = with_goal(table, fact, goal)
+        found.extend(all_widened(wider, choices_left(choices, fact, wider)))
+    return found
+
+
+def choices_left(choices, fact, table):
+    """The choices for the other facts, with those of their goals that fit the table."""
+    return [(later, goals(later, aims, table)) for later, aims in choices if later != fact]
+
+
+def choices_for(facts, others, table):
+    """For each of the facts or atoms a choice: the fact, and its goals among the others beside the table."""
+    return [(fact, goals(fact, others, table)) for fact in facts]
 
 
 def goals(fact, others, table):
@@ -43,7 +64,7 @@ def with_goal(table, fact, goal):
         return None
     wider = dict(table)
     for part, aim in zip(fact[1:], goal[1:]):
-        if part not in wider and is_unknown(part):
+        if part not in wider and is_open(part):
             wider[part] = aim
         if wider.get(part, part) != aim:
             return None

@@ -1,6 +1,7 @@
 """Stores of facts, their unknowns and their plain names."""
 
 LETTERS = "abcdefghijklmnopqrstuvwxyz"
+CAPITALS = "ABCDEFGHIJKLMNOPQRSTUVWXYZ"
 DIGITS = "0123456789"
 
 
@@ -19,9 +20,20 @@ def is_unknown(value):
     return 1 <= len(digits) <= 5 and digits[0] != "0" and all([sign in DIGITS for sign in digits])
 
 
+def is_variable(value):
+    """Whether any value is a variable."""
+    return isinstance(value, str) and len(value) == 1 and value in CAPITALS
+
+
 def is_value(value):
     """Whether any value is a constant or an unknown."""
     return is_word(value) or is_unknown(value)
+
+
+def is_open(part):
+    """Whether a part of a fact or an atom is an unknown or a variable."""
+    # Constants alone begin with a small letter.
+    return part[0] not in LETTERS
 
 
 def is_pair(value):
@@ -103,7 +115,7 @@ def named(table, fact, names):
 
 
 def knots(store):
-    """The facts in groups: facts that have an unknown in common are in one group."""
+    """The facts or atoms in groups: those that have an unknown or a variable in common are in one group."""
     groups = []
     for fact in store:
         near = [row for group in groups if touches(group, fact) for row in group]
@@ -112,5 +124,5 @@ def knots(store):
 
 
 def touches(group, fact):
-    """Whether an unknown of the fact stands in a fact of the group."""
-    return any([part in row for row in group for part in fact[1:] if is_unknown(part)])
+    """Whether an unknown or a variable of the fact stands in a fact of the group."""
+    return any([part in row for row in group for part in fact[1:] if is_open(part)])

@@ -68,3 +68,127 @@ ODD_VALUES = (
     (None,), (True,), ((True, False),), [("at", "ann")], (["at", "ann"],), (("at", ["ann"]),), (("at", ("ann",)),),
     ((("at", "ann"),),), (("at", None),), ((None, "ann"),), (("at", True),), "at ann", ("?1", "ann"),
 )
+
+R = ((("emp", "A", "B"),), (("has", "C", "A"), ("in", "C", "B")))
+B = ((R,), ())
+
+
+def slow_core(store):
+    """core, by trying all leads of the store into itself, until none leaves fewer facts."""
+    for pairs in slow_leads(store, store):
+        less = swapped(store, dict(pairs))
+        if len(less) < len(store):
+            return slow_core(less)
+    return slow_plain(store)
+
+
+def letters(atoms):
+    """The variables of some atoms."""
+    return sorted({term for atom in atoms for term in atom[1:] if term.isupper()})
+
+
+def slow_assignments(atoms, facts):
+    """All assignments by which the atoms become facts, ascending, by trying all values for each variable."""
+    names = letters(atoms)
+    values = sorted({value for fact in facts for value in fact[1:]})
+    tried = [tuple(zip(names, row)) for row in itertools.product(values, repeat=len(names))]
+    return sorted(pairs for pairs in tried if set(swapped(atoms, dict(pairs))) <= set(facts))
+
+
+def slow_is_there(head, pairs, store):
+    """Whether values for the other variables of the head make its atoms facts of the store."""
+    return bool(slow_assignments(swapped(head, dict(pairs)), store))
+
+
+def slow_broken(book, source, store):
+    """broken, word by word."""
+    for number, (body, head) in enumerate(book[0]):
+        for pairs in slow_assignments(body, source):
+            if not slow_is_there(head, pairs, store):
+                return "rule", number, pairs
+    for number, (relation, columns) in enumerate(book[1]):
+        for fact, other in itertools.combinations(store, 2):
+            if fact[0] == other[0] == relation and all(fact[column + 1] == other[column + 1] for column in columns):
+                return "key", number, fact, other
+    return None
+
+
+def slow_handed(book, source):
+    """A right store that leads into all right stores, or None; the values are joined in sets."""
+    facts, many = [], itertools.count(100)
+    for body, head in reversed(book[0]):
+        for pairs in reversed(slow_assignments(body, source)):
+            new = {name: f"?{next(many)}" for name in letters(head) if name not in letters(body)}
+            facts.extend(swapped(head, {**new, **dict(pairs)}))
+    while True:
+        facts = sorted(set(facts), reverse=True)
+        shown = slow_broken(((), book[1]), (), tuple(facts))
+        if shown is None:
+            return tuple(sorted(facts))
+        one, other = next(pair for pair in zip(shown[2], shown[3]) if pair[0] != pair[1])
+        if "?" not in one + other:
+            return None
+        old, new = (one, other) if "?" in one else (other, one)
+        facts = swapped(facts, {old: new})
+
+
+BODY_WIDTHS = {"p": 1, "q": 2, "s": 3}
+HEAD_WIDTHS = {"u": 1, "v": 2, "w": 3}
+
+
+def some_atoms(numbers, table, terms, most):
+    """Some atoms of the relations of a table of widths, with some of the terms."""
+    names = [numbers.choice(sorted(table)) for _ in range(numbers.randrange(1, most + 1))]
+    return tuple((name, *[numbers.choice(terms) for _ in range(table[name])]) for name in names)
+
+
+def some_rule(numbers, constants=("a", "b"), most=2):
+    """Some rule from BODY_WIDTHS to HEAD_WIDTHS."""
+    body = some_atoms(numbers, BODY_WIDTHS, ["A", "B", "C", numbers.choice(constants)], most)
+    terms = [*letters(body), *letters(body), *"DE"[:5 - len(letters(body))], numbers.choice(constants)]
+    return body, some_atoms(numbers, HEAD_WIDTHS, terms, 2)
+
+
+def some_book(numbers, rules=2, keys=2, constants=("a", "b")):
+    """Some book with at most that many rules and keys; keys seldom have all columns."""
+    made = tuple(some_rule(numbers, constants) for _ in range(numbers.randrange(1, rules + 1)))
+    names = sorted({atom[0] for _, head in made for atom in head})
+    told = []
+    for _ in range(numbers.randrange(keys + 1)):
+        name = numbers.choice(names)
+        columns = range(HEAD_WIDTHS[name])
+        most = max(1, len(columns) - (numbers.randrange(4) > 0))
+        told.append((name, tuple(sorted(numbers.sample(columns, numbers.randrange(1, most + 1))))))
+    return made, tuple(told)
+
+
+def some_facts(numbers, most, constants, table):
+    """Some facts of the relations of a table of widths."""
+    names = [numbers.choice(sorted(table)) for _ in range(numbers.randrange(most + 1))]
+    return tuple(sorted({(name, *[numbers.choice(constants) for _ in range(table[name])]) for name in names}))
+
+
+def some_source(numbers, book, times=3, constants=("a", "b", "c")):
+    """Some source of a book made of some_rule, in which bodies of its rules become facts."""
+    facts = set(some_facts(numbers, 1, constants, BODY_WIDTHS))
+    for _ in range(numbers.randrange(times + 1)):
+        body = numbers.choice(book[0])[0]
+        facts.update(swapped(body, {name: numbers.choice(constants) for name in letters(body)}))
+    return tuple(sorted(facts))
+
+
+def rule(body, head):
+    """A rule written as two texts: atoms have a comma between them."""
+    return tuple(tuple(tuple(words.split()) for words in text.split(", ")) for text in (body, head))
+
+
+def store(text):
+    """A store written as a text."""
+    return tuple(sorted(tuple(words.split()) for words in text.split(", ")))
+
+
+def every_store(table, values):
+    """All stores of the relations of a table of widths with these values."""
+    facts = [(name, *row) for name in sorted(table) for row in itertools.product(values, repeat=table[name])]
+    rows = [itertools.combinations(sorted(facts), many) for many in range(len(facts) + 1)]
+    return itertools.chain(*rows)

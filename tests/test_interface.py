@@ -9,9 +9,13 @@ import subprocess
 import sys
 import unittest
 
+from corestore.books import is_book, is_rule, is_source
+from corestore.cores import blocks, core, folding, is_folding
+from corestore.handing import has_right, least
 from corestore.leads import is_lead, lead, same
+from corestore.right import broken, is_right
 from corestore.stores import is_store, plain, renamed, unknowns
-from helper import S
+from helper import B, R, S
 
 ROOT = os.path.dirname(os.path.dirname(os.path.abspath(__file__)))
 PACKAGE = os.path.join(ROOT, "corestore")
@@ -19,6 +23,10 @@ PACKAGE = os.path.join(ROOT, "corestore")
 FUNCTIONS = {
     "stores": {"is_store": ["value"], "unknowns": ["store"], "renamed": ["store", "pairs"], "plain": ["store"]},
     "leads": {"lead": ["one", "other"], "is_lead": ["one", "other", "value"], "same": ["one", "other"]},
+    "cores": {"folding": ["store"], "is_folding": ["store", "value"], "core": ["store"], "blocks": ["store"]},
+    "books": {"is_book": ["value"], "is_rule": ["value"], "is_source": ["book", "value"]},
+    "right": {"is_right": ["book", "source", "store"], "broken": ["book", "source", "store"]},
+    "handing": {"has_right": ["book", "source"], "least": ["book", "source"]},
 }
 CLASSES = {
     "errors": {"CoreError": None, "Clash": [], "BadSource": [], "BadFact": ["value"], "NoFact": ["value"],
@@ -27,6 +35,11 @@ CLASSES = {
 
 EVE = (("has", "eve", "ann"), ("in", "eve", "rome"))
 PAIRS = (("?3", "eve"), ("?7", "eve"))
+FOLDED = (("?3", "?3"), ("?7", "?3"))
+LEAST = (("has", "?1", "ann"), ("in", "?1", "rome"))
+ANN = (("emp", "ann", "rome"),)
+KEYED = ((R,), (("in", (0,)),))
+BAD = (("in", "a", "b"), ("in", "a", "c"))
 # Each function with its arguments, what they are called, and what it returns for them.
 CALLS = (
     (is_store, (S,), ("value",), True),
@@ -36,6 +49,18 @@ CALLS = (
     (lead, (S, EVE), ("one", "other"), PAIRS),
     (is_lead, (S, EVE, PAIRS), ("one", "other", "value"), True),
     (same, (S, EVE), ("one", "other"), False),
+    (folding, (S,), ("store",), FOLDED),
+    (is_folding, (S, FOLDED), ("store", "value"), True),
+    (core, (S,), ("store",), LEAST),
+    (blocks, (S,), ("store",), (("?3",), ("?7",))),
+    (is_book, (B,), ("value",), True),
+    (is_rule, (R,), ("value",), True),
+    (is_source, (B, ANN), ("book", "value"), True),
+    (is_right, (B, ANN, S), ("book", "source", "store"), True),
+    (broken, (B, ANN, ()), ("book", "source", "store"), ("rule", 0, (("A", "ann"), ("B", "rome")))),
+    (broken, (KEYED, (), BAD), ("book", "source", "store"), ("key", 0, BAD[0], BAD[1])),
+    (has_right, (B, ANN), ("book", "source"), True),
+    (least, (B, ANN), ("book", "source"), LEAST),
 )
 
 
@@ -125,8 +150,9 @@ class GeneralTest(unittest.TestCase):
     def test_kinds_of_answers(self):
         for function, arguments, _, answer in CALLS:
             self.assertIs(type(function(*arguments)), type(answer), function)
-        for result in (renamed(S, PAIRS), plain(S), lead(S, EVE)):
+        for result in (renamed(S, PAIRS), plain(S), lead(S, EVE), folding(S), core(S), blocks(S), least(B, ANN)):
             self.assertTrue(all(type(part) is tuple for part in result))
+        self.assertIs(type(broken(B, ANN, ())[1]), int)
 
     def test_a_later_change_to_an_argument_changes_no_other_answer(self):
         value = [("?3", "eve"), ("?7", "eve")]
@@ -138,9 +164,14 @@ class GeneralTest(unittest.TestCase):
 
     def test_answers_do_not_depend_on_how_python_hashes(self):
         program = (
-            "from corestore.stores import *; from corestore.leads import *;"
+            "from corestore.stores import *; from corestore.leads import *; from corestore.cores import *;"
+            "from corestore.handing import *; from corestore.right import *; from corestore.books import *;"
             "s = tuple(sorted(('by', '?%d' % k, '?%d' % ((k * 7) % 5 + 1)) for k in range(1, 6)));"
-            "print(unknowns(s), renamed(s, (('?1', 'a'), ('?2', '?1'))), plain(s), lead(s, s), same(s, plain(s)))")
+            "print(unknowns(s), renamed(s, (('?1', 'a'), ('?2', '?1'))), plain(s), lead(s, s), same(s, plain(s)));"
+            "print(folding(s + (('by', 'a', 'a'),)), core(s), blocks(s));"
+            "b = (((('p', 'A'),), (('v', 'A', 'D'), ('v', 'E', 'A'))),), (('v', (0,)),);"
+            "t = tuple(('p', c) for c in 'abc');"
+            "print(least(b, t), broken(b, t, ()), is_source(b, t), is_book(b))")
         shown = set()
         for seed in ("0", "1", "2", "77"):
             done = subprocess.run([sys.executable, "-c", program], cwd=ROOT, capture_output=True, text=True,
