@@ -9,10 +9,14 @@ import subprocess
 import sys
 import unittest
 
+from corestore.alls import follows, key_follows, parting, same_on, shortest
 from corestore.books import is_book, is_rule, is_source
 from corestore.cores import blocks, core, folding, is_folding
+from corestore.desk import Handing
+from corestore.errors import CoreError
 from corestore.handing import has_right, least
 from corestore.leads import is_lead, lead, same
+from corestore.questions import answers, sure
 from corestore.right import broken, is_right
 from corestore.stores import is_store, plain, renamed, unknowns
 from helper import B, R, S
@@ -27,10 +31,19 @@ FUNCTIONS = {
     "books": {"is_book": ["value"], "is_rule": ["value"], "is_source": ["book", "value"]},
     "right": {"is_right": ["book", "source", "store"], "broken": ["book", "source", "store"]},
     "handing": {"has_right": ["book", "source"], "least": ["book", "source"]},
+    "questions": {"answers": ["question", "store"], "sure": ["book", "source", "question"]},
+    "alls": {"follows": ["book", "rule"], "same_on": ["one", "other", "source"], "parting": ["one", "other"],
+             "key_follows": ["book", "key"], "shortest": ["book"]},
 }
 CLASSES = {
     "errors": {"CoreError": None, "Clash": [], "BadSource": [], "BadFact": ["value"], "NoFact": ["value"],
                "NothingDone": [], "BadText": ["line", "word"]},
+    "desk": {"Handing": ["book", "source"]},
+}
+# The methods that the interface lists for a class, with their arguments behind self.
+METHODS = {
+    ("desk", "Handing"): {"has_right": [], "least": [], "sure": ["question"], "put": ["fact"], "take": ["fact"],
+                          "undo": [], "twin": [], "__len__": [], "__eq__": ["other"], "book": None, "source": None},
 }
 
 EVE = (("has", "eve", "ann"), ("in", "eve", "rome"))
@@ -40,6 +53,9 @@ LEAST = (("has", "?1", "ann"), ("in", "?1", "rome"))
 ANN = (("emp", "ann", "rome"),)
 KEYED = ((R,), (("in", (0,)),))
 BAD = (("in", "a", "b"), ("in", "a", "c"))
+QUESTION = (("A", "B"), (("has", "B", "A"),))
+WEAK = ((("emp", "A", "B"),), (("in", "D", "B"),))
+STRONG = ((("emp", "A", "B"),), (("in", "A", "B"),))
 # Each function with its arguments, what they are called, and what it returns for them.
 CALLS = (
     (is_store, (S,), ("value",), True),
@@ -61,6 +77,15 @@ CALLS = (
     (broken, (KEYED, (), BAD), ("book", "source", "store"), ("key", 0, BAD[0], BAD[1])),
     (has_right, (B, ANN), ("book", "source"), True),
     (least, (B, ANN), ("book", "source"), LEAST),
+    (answers, (QUESTION, EVE), ("question", "store"), (("ann", "eve"),)),
+    (sure, (B, ANN, (("A",), QUESTION[1])), ("book", "source", "question"), (("ann",),)),
+    (follows, (B, WEAK), ("book", "rule"), True),
+    (same_on, (B, KEYED, ANN), ("one", "other", "source"), False),
+    (parting, (B, KEYED), ("one", "other"), ()),
+    (parting, (B, (B[0] + (WEAK,), ())), ("one", "other"), None),
+    (parting, (B, (B[0] + (STRONG,), ())), ("one", "other"), (("emp", "aa", "ab"),)),
+    (key_follows, (KEYED, ("in", (0, 1))), ("book", "key"), True),
+    (shortest, (((WEAK,) + B[0], KEYED[1]),), ("book",), KEYED),
 )
 
 
@@ -96,6 +121,21 @@ class InterfaceTest(unittest.TestCase):
                 kind = getattr(importlib.import_module("corestore." + module), name)
                 if fields:
                     self.assertEqual(list(inspect.signature(kind).parameters), fields)
+
+    def test_methods_stand_in_their_classes_with_their_arguments(self):
+        for (module, name), methods in METHODS.items():
+            node = [node for node in tree_of(module + ".py").body if getattr(node, "name", None) == name][0]
+            there = {part.name for part in node.body if isinstance(part, ast.FunctionDef)}
+            kind = getattr(importlib.import_module("corestore." + module), name)
+            for method, arguments in methods.items():
+                self.assertIn(method, there)
+                if arguments is None:
+                    self.assertIsInstance(vars(kind)[method], property)
+                else:
+                    self.assertEqual(list(inspect.signature(vars(kind)[method]).parameters)[1:], arguments)
+        source = inspect.signature(Handing).parameters["source"]
+        self.assertIs(source.kind, inspect.Parameter.KEYWORD_ONLY)
+        self.assertEqual(source.default, ())
 
     def test_the_package_is_one_folder_of_files(self):
         self.assertIn("__init__.py", package_files())
@@ -154,6 +194,19 @@ class GeneralTest(unittest.TestCase):
             self.assertTrue(all(type(part) is tuple for part in result))
         self.assertIs(type(broken(B, ANN, ())[1]), int)
 
+    def test_a_handing_changes_no_argument(self):
+        arguments = (KEYED, ANN, QUESTION, ("emp", "bob", "rome"), ["emp"])
+        before = copy.deepcopy(arguments)
+        one = Handing(arguments[0], source=arguments[1])
+        one.put(arguments[3])
+        one.sure(QUESTION)
+        one.take(arguments[3])
+        for method in (one.put, one.take):
+            with self.assertRaises(CoreError):
+                method(arguments[4])
+        one.undo()
+        self.assertEqual(arguments, before)
+
     def test_a_later_change_to_an_argument_changes_no_other_answer(self):
         value = [("?3", "eve"), ("?7", "eve")]
         self.assertIs(is_lead(S, EVE, value), False)
@@ -171,7 +224,10 @@ class GeneralTest(unittest.TestCase):
             "print(folding(s + (('by', 'a', 'a'),)), core(s), blocks(s));"
             "b = (((('p', 'A'),), (('v', 'A', 'D'), ('v', 'E', 'A'))),), (('v', (0,)),);"
             "t = tuple(('p', c) for c in 'abc');"
-            "print(least(b, t), broken(b, t, ()), is_source(b, t), is_book(b))")
+            "print(least(b, t), broken(b, t, ()), is_source(b, t), is_book(b));"
+            "from corestore.questions import *; from corestore.alls import *;"
+            "print(answers((('A', 'B'), (('v', 'A', 'C'), ('v', 'D', 'B'))), least(b, t)));"
+            "print(parting(b, ((((('p', 'A'), ('p', 'B')), (('v', 'A', 'B'),)),), b[1])), shortest((b[0] * 3, b[1])))")
         shown = set()
         for seed in ("0", "1", "2", "77"):
             done = subprocess.run([sys.executable, "-c", program], cwd=ROOT, capture_output=True, text=True,
