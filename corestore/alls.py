@@ -18,6 +18,8 @@ def refuted(book, rule):
     """
     body, head = rule
     rules, keys = book
+    # The atoms of the body themselves are handed over: variables as values are unlike all that the book names, and
+    # more facts in a source only put more into the right stores.
     store, table = settled(came(rules, tuple(sorted(set(body)))), keys)
     if store is None:
         return None
@@ -70,6 +72,7 @@ def constants(book):
 
 def made_facts(atoms, taken):
     """The store of the atoms with constants that are not taken in the place of their variables."""
+    # A constant that a book names could make its rules call for more.
     fresh = [one + other for one in LETTERS for other in LETTERS if one + other not in taken]
     return store_by(atoms, dict(zip(variables(atoms), fresh)))
 
