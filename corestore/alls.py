@@ -1,9 +1,9 @@
 """Books compared for all sources at once."""
 
-from corestore.books import bodies, heads, is_book, variables, widths
+from corestore.books import all_atoms, constants, heads, is_book, stand_ins, variables, widths
 from corestore.handing import came, handed, settled
 from corestore.right import is_there, lacking
-from corestore.stores import LETTERS, fact_by, is_word, store_by
+from corestore.stores import fact_by, store_by
 
 
 def follows(book, rule):
@@ -55,26 +55,14 @@ def parting(one, other):
     """Any source for which not the same stores are right by both books; None if there is none."""
     if not keys_follow(one, other) or not keys_follow(other, one):
         return ()
-    taken = constants(one) + constants(other)
+    # A constant that a book names could make its rules call for more.
+    taken = constants(all_atoms(one[0] + other[0]))
     for book, rules in ((one, other[0]), (other, one[0])):
         for rule in rules:
             body = refuted(book, rule)
             if body is not None:
-                return made_facts(body, taken)
+                return store_by(body, stand_ins(body, taken))
     return None
-
-
-def constants(book):
-    """The constants of the book, as often as they stand there."""
-    atoms = bodies(book[0]) + heads(book[0])
-    return [term for atom in atoms for term in atom[1:] if is_word(term)]
-
-
-def made_facts(atoms, taken):
-    """The store of the atoms with constants that are not taken in the place of their variables."""
-    # A constant that a book names could make its rules call for more.
-    fresh = [one + other for one in LETTERS for other in LETTERS if one + other not in taken]
-    return store_by(atoms, dict(zip(variables(atoms), fresh)))
 
 
 def key_follows(book, key):

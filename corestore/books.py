@@ -1,6 +1,6 @@
 """Which values are rules, books and sources of a book."""
 
-from corestore.stores import is_pair, is_store, is_variable, is_word, unknowns
+from corestore.stores import LETTERS, is_pair, is_store, is_variable, is_word, unknowns
 
 
 def is_term(value):
@@ -61,6 +61,22 @@ def heads(rules):
     return tuple([atom for _, head in rules for atom in head])
 
 
+def all_atoms(rules):
+    """The atoms of the rules."""
+    return bodies(rules) + heads(rules)
+
+
+def constants(atoms):
+    """The constants of the atoms, as often as they stand there."""
+    return [term for atom in atoms for term in atom[1:] if is_word(term)]
+
+
+def stand_ins(atoms, taken):
+    """A table that has for each variable of the atoms a constant of its own that is not taken."""
+    fresh = [one + other for one in LETTERS for other in LETTERS if one + other not in taken]
+    return dict(zip(variables(atoms), fresh))
+
+
 def is_book(value):
     """Whether any value is a book."""
     if not is_pair(value) or not all([isinstance(part, tuple) for part in value]):
@@ -68,7 +84,7 @@ def is_book(value):
     rules, keys = value
     if not 1 <= len(rules) <= 4 or len(keys) > 3 or not all([is_rule(rule) for rule in rules]):
         return False
-    if not even(bodies(rules) + heads(rules)) or not apart(bodies(rules), heads(rules)):
+    if not even(all_atoms(rules)) or not apart(bodies(rules), heads(rules)):
         return False
     return all([is_key(key, widths(heads(rules))) for key in keys])
 

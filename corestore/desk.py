@@ -4,7 +4,7 @@ from corestore.books import is_source
 from corestore.errors import BadFact, BadSource, NoFact, NothingDone
 from corestore.handing import has_right, least, outcome
 from corestore.questions import sure
-from corestore.stores import is_fact
+from corestore.stores import is_fact, store_of, without
 
 
 class Handing:
@@ -44,7 +44,7 @@ class Handing:
         """Puts the fact into the source; returns whether something else comes of it than before."""
         if not is_fact(fact):
             raise BadFact(fact)
-        source = tuple(sorted(set(self._source + (fact,))))
+        source = store_of(self._source + (fact,))
         if not is_source(self._book, source):
             raise BadFact(fact)
         return self._change(source)
@@ -53,7 +53,7 @@ class Handing:
         """Takes the fact from the source; returns whether something else comes of it than before."""
         if fact not in self._source:
             raise NoFact(fact)
-        return self._change(tuple([other for other in self._source if other != fact]))
+        return self._change(without(self._source, fact))
 
     def _change(self, source):
         """Goes on with the source; returns whether something else comes of it than before."""

@@ -4,7 +4,7 @@ from corestore.books import variables
 from corestore.cores import core
 from corestore.errors import Clash
 from corestore.right import assignments, unlike
-from corestore.stores import fact_by, is_word, store_by
+from corestore.stores import fact_by, is_word, store_by, store_of
 
 
 def has_right(book, source):
@@ -32,10 +32,12 @@ def handed(book, source):
     return settled(came(rules, source), keys)[0]
 
 
-def came(rules, source):
-    """The store that the rules call for, with a new unknown for each invented variable each time."""
+def came(rules, source, many=0):
+    """The store that the rules call for, with a new unknown for each invented variable each time.
+
+    The new unknowns are numbered behind so many that the source has.
+    """
     facts = []
-    many = 0
     for body, head in rules:
         for pairs in assignments(body, source):
             table = dict(pairs)
@@ -45,7 +47,7 @@ def came(rules, source):
                     many += 1
                     table[name] = f"?{many}"
             facts.extend([fact_by(atom, table) for atom in head])
-    return tuple(sorted(set(facts)))
+    return store_of(facts)
 
 
 def settled(store, keys):

@@ -71,9 +71,19 @@ def renamed(store, pairs):
     return store_by(store, dict(pairs))
 
 
+def store_of(facts):
+    """The store of the facts, which may stand in any order, and more than once."""
+    return tuple(sorted(set(facts)))
+
+
+def without(store, fact):
+    """The store less the fact, if it stands there."""
+    return tuple([other for other in store if other != fact])
+
+
 def store_by(store, table):
     """The store whose facts are those of the store, replaced by the table."""
-    return tuple(sorted({fact_by(fact, table) for fact in store}))
+    return store_of([fact_by(fact, table) for fact in store])
 
 
 def fact_by(fact, table):

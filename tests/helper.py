@@ -192,3 +192,22 @@ def every_store(table, values):
     facts = [(name, *row) for name in sorted(table) for row in itertools.product(values, repeat=table[name])]
     rows = [itertools.combinations(sorted(facts), many) for many in range(len(facts) + 1)]
     return itertools.chain(*rows)
+
+
+def ask(out, text):
+    """A question written as two texts."""
+    return tuple(out.split()), tuple(tuple(words.split()) for words in text.split(", "))
+
+
+def slow_answers(question, facts):
+    """answers, by trying all values for each variable."""
+    rows = {tuple(dict(pairs)[name] for name in question[0]) for pairs in slow_assignments(question[1], facts)}
+    return tuple(sorted(row for row in rows if "?" not in "".join(row)))
+
+
+def some_question(numbers):
+    """Some question about relations of HEAD_WIDTHS."""
+    terms = ["A", "B", "C", "D"][:numbers.randrange(1, 5)] * 2 + ["a"]
+    atoms = some_atoms(numbers, HEAD_WIDTHS, terms, 4)
+    names = letters(atoms)
+    return tuple(numbers.choice(names) for _ in range(numbers.randrange(4)) if names), atoms

@@ -10,7 +10,10 @@ import sys
 import unittest
 
 from corestore.alls import follows, key_follows, parting, same_on, shortest
+from corestore.asks import is_way, least_question, telling, way, within
+from corestore.behind import has_through, is_behind, through
 from corestore.books import is_book, is_rule, is_source
+from corestore.changes import fewest, needless, news
 from corestore.cores import blocks, core, folding, is_folding
 from corestore.desk import Handing
 from corestore.errors import CoreError
@@ -19,6 +22,7 @@ from corestore.leads import is_lead, lead, same
 from corestore.questions import answers, sure
 from corestore.right import broken, is_right
 from corestore.stores import is_store, plain, renamed, unknowns
+from corestore.sums import beside, beside_all
 from helper import B, R, S
 
 ROOT = os.path.dirname(os.path.dirname(os.path.abspath(__file__)))
@@ -34,6 +38,13 @@ FUNCTIONS = {
     "questions": {"answers": ["question", "store"], "sure": ["book", "source", "question"]},
     "alls": {"follows": ["book", "rule"], "same_on": ["one", "other", "source"], "parting": ["one", "other"],
              "key_follows": ["book", "key"], "shortest": ["book"]},
+    "asks": {"within": ["one", "other"], "way": ["one", "other"], "is_way": ["one", "other", "value"],
+             "telling": ["one", "other"], "least_question": ["question"]},
+    "sums": {"beside": ["one", "other"], "beside_all": ["stores"]},
+    "behind": {"is_behind": ["first", "second"], "through": ["first", "second", "source"],
+               "has_through": ["first", "second", "source"]},
+    "changes": {"needless": ["book", "source"], "fewest": ["book", "source"],
+                "news": ["book", "source", "question", "fact"]},
 }
 CLASSES = {
     "errors": {"CoreError": None, "Clash": [], "BadSource": [], "BadFact": ["value"], "NoFact": ["value"],
@@ -56,6 +67,10 @@ BAD = (("in", "a", "b"), ("in", "a", "c"))
 QUESTION = (("A", "B"), (("has", "B", "A"),))
 WEAK = ((("emp", "A", "B"),), (("in", "D", "B"),))
 STRONG = ((("emp", "A", "B"),), (("in", "A", "B"),))
+COPY = (((QUESTION[1], (("cop", "B"),)),), ())
+TWO = (("emp", "ann", "rome"), ("zoo", "a"))
+P = (("A",), (("has", "A", "B"), ("has", "A", "C"), ("in", "B", "D")))
+Q = (("A",), (("has", "A", "B"),))
 # Each function with its arguments, what they are called, and what it returns for them.
 CALLS = (
     (is_store, (S,), ("value",), True),
@@ -86,6 +101,23 @@ CALLS = (
     (parting, (B, (B[0] + (STRONG,), ())), ("one", "other"), (("emp", "aa", "ab"),)),
     (key_follows, (KEYED, ("in", (0, 1))), ("book", "key"), True),
     (shortest, (((WEAK,) + B[0], KEYED[1]),), ("book",), KEYED),
+    (within, (P, Q), ("one", "other"), True),
+    (within, (Q, P), ("one", "other"), False),
+    (way, ((("A",), P[1][:1] + P[1][2:]), Q), ("one", "other"), (("A", "A"), ("B", "B"))),
+    (way, (Q, P), ("one", "other"), None),
+    (is_way, (P, Q, (("A", "A"), ("B", "C"))), ("one", "other", "value"), True),
+    (telling, (P, Q), ("one", "other"), None),
+    (telling, (((), (("in", "a"),)), ((), (("in", "b"),))), ("one", "other"), ((("in", "a"),), ())),
+    (least_question, (P,), ("question",), (("A",), P[1][:1] + P[1][2:])),
+    (beside, (S, EVE[:1]), ("one", "other"), (("has", "?1", "ann"), ("has", "eve", "ann"), ("in", "?1", "rome"))),
+    (beside_all, ((S, EVE[:1], EVE),), ("stores",), EVE),
+    (is_behind, (B, COPY), ("first", "second"), True),
+    (is_behind, (COPY, B), ("first", "second"), False),
+    (through, (B, COPY, ANN), ("first", "second", "source"), (("cop", "?1"),)),
+    (has_through, (B, COPY, ANN), ("first", "second", "source"), True),
+    (needless, (B, TWO), ("book", "source"), TWO[1:]),
+    (fewest, (B, TWO), ("book", "source"), ANN),
+    (news, (B, (), (("A",), QUESTION[1]), ANN[0]), ("book", "source", "question", "fact"), ((("ann",),), ())),
 )
 
 
@@ -190,7 +222,9 @@ class GeneralTest(unittest.TestCase):
     def test_kinds_of_answers(self):
         for function, arguments, _, answer in CALLS:
             self.assertIs(type(function(*arguments)), type(answer), function)
-        for result in (renamed(S, PAIRS), plain(S), lead(S, EVE), folding(S), core(S), blocks(S), least(B, ANN)):
+        for result in (renamed(S, PAIRS), plain(S), lead(S, EVE), folding(S), core(S), blocks(S), least(B, ANN),
+                       way(P, Q), telling(Q, P), least_question(P), beside(S, S), through(B, COPY, ANN),
+                       fewest(B, TWO), news(B, (), (("A",), QUESTION[1]), ANN[0])):
             self.assertTrue(all(type(part) is tuple for part in result))
         self.assertIs(type(broken(B, ANN, ())[1]), int)
 
@@ -227,6 +261,9 @@ class GeneralTest(unittest.TestCase):
             "print(least(b, t), broken(b, t, ()), is_source(b, t), is_book(b));"
             "from corestore.questions import *; from corestore.alls import *;"
             "print(answers((('A', 'B'), (('v', 'A', 'C'), ('v', 'D', 'B'))), least(b, t)));"
+            "from corestore.asks import *; from corestore.sums import *; from corestore.changes import *;"
+            "q = (('A',), (('v', 'A', 'B'), ('v', 'A', 'C'), ('v', 'C', 'C')));"
+            "print(way(q, q), telling(q[:1] + (q[1][:1],), q), least_question(q), beside(s, s[:2]), fewest(b, t));"
             "print(parting(b, ((((('p', 'A'), ('p', 'B')), (('v', 'A', 'B'),)),), b[1])), shortest((b[0] * 3, b[1])))")
         shown = set()
         for seed in ("0", "1", "2", "77"):

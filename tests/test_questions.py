@@ -3,29 +3,10 @@ import unittest
 from corestore.errors import Clash
 from corestore.handing import has_right, least
 from corestore.questions import answers, sure
-from helper import (B, HEAD_WIDTHS, R, chance, letters, rule, slow_assignments, slow_broken, slow_handed, some_atoms,
-                    some_book, some_facts, some_source, store)
+from helper import (B, HEAD_WIDTHS, R, ask, chance, rule, slow_answers, slow_broken, slow_handed, some_book, some_facts,
+                    some_question, some_source, store)
 
 TWO = (("emp", "ann", "rome"), ("emp", "bob", "rome"))
-
-
-def ask(out, text):
-    """A question written as two texts."""
-    return tuple(out.split()), tuple(tuple(words.split()) for words in text.split(", "))
-
-
-def slow_answers(question, facts):
-    """answers, by trying all values for each variable."""
-    rows = {tuple(dict(pairs)[name] for name in question[0]) for pairs in slow_assignments(question[1], facts)}
-    return tuple(sorted(row for row in rows if "?" not in "".join(row)))
-
-
-def some_question(numbers):
-    """Some question about relations of HEAD_WIDTHS."""
-    terms = ["A", "B", "C", "D"][:numbers.randrange(1, 5)] * 2 + ["a"]
-    atoms = some_atoms(numbers, HEAD_WIDTHS, terms, 4)
-    names = letters(atoms)
-    return tuple(numbers.choice(names) for _ in range(numbers.randrange(4)) if names), atoms
 
 
 class AnswersTest(unittest.TestCase):
