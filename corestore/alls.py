@@ -3,7 +3,7 @@
 from corestore.books import all_atoms, constants, heads, is_book, stand_ins, variables, widths
 from corestore.handing import came, handed, settled
 from corestore.right import is_there, lacking
-from corestore.stores import fact_by, store_by
+from corestore.stores import fact_by, store_by, store_of
 
 
 def follows(book, rule):
@@ -20,7 +20,7 @@ def refuted(book, rule):
     rules, keys = book
     # The atoms of the body themselves are handed over: variables as values are unlike all that the book names, and
     # more facts in a source only put more into the right stores.
-    store, table = settled(came(rules, tuple(sorted(set(body)))), keys)
+    store, table = settled(came(rules, store_of(body)), keys)
     if store is None:
         return None
     if any([name in table for name in variables(body)]):

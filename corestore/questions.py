@@ -1,8 +1,20 @@
 """Answers to questions: in a store, and surely in all right stores."""
 
+from corestore.books import even, variables
 from corestore.handing import least
 from corestore.right import assignments
 from corestore.stores import is_unknown, knots
+
+
+MOST_OUT = 3
+MOST_VARIABLES = 4
+
+
+def is_question(out, atoms):
+    """Whether the words of out and the atoms, of which there are not too many, are a question."""
+    names = variables(atoms)
+    few = len(out) <= MOST_OUT and len(names) <= MOST_VARIABLES
+    return few and even(atoms) and all([word in names for word in out])
 
 
 def answers(question, store):

@@ -211,3 +211,22 @@ def some_question(numbers):
     atoms = some_atoms(numbers, HEAD_WIDTHS, terms, 4)
     names = letters(atoms)
     return tuple(numbers.choice(names) for _ in range(numbers.randrange(4)) if names), atoms
+
+
+ODD_SIGNS = [" ", "\n", "  ", "\n\n", "\r", "\t", "A", "0", "\u00e9", "!", ":", ","]
+
+
+def spoiled(numbers, text, parts):
+    """The text with at most three changes: a part is put in, some signs are taken, or two lines change places."""
+    for _ in range(numbers.randrange(4)):
+        at = numbers.randrange(len(text) + 1)
+        kind = numbers.randrange(4)
+        if kind < 2:
+            text = text[:at] + numbers.choice(parts) + text[at + kind:]
+        elif kind == 2:
+            text = text[:at] + text[at + numbers.randrange(1, 4):]
+        else:
+            lines = text.split("\n")
+            lines.insert(numbers.randrange(len(lines)), lines.pop(numbers.randrange(len(lines))))
+            text = "\n".join(lines)
+    return text

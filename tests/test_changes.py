@@ -159,7 +159,8 @@ class NewsTest(unittest.TestCase):
         self.told(B, "emp ann rome", ask("A", "has C A, in C rome"), "emp bob rome", "bob")
         self.told(B, "", ask("A B", "has C A, in C B"), "emp bob rome", "bob rome")
         self.told(B, "", ask("", "has C A"), "emp bob rome", "")
-        self.told(book("q A B, q B C : v A C"), "q a b, q b b, q c d", ask("A B", "v A B"), "q b c", "a c", "b c", "b d")
+        self.told(book("q A B, q B C : v A C"), "q a b, q b b, q c d", ask("A B", "v A B"), "q b c",
+                  "a c", "b c", "b d")
 
     def test_a_fact_that_brings_none(self):
         self.told(B, "emp ann rome", ask("A", "in C A"), "emp bob rome")

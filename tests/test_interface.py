@@ -13,16 +13,20 @@ from corestore.alls import follows, key_follows, parting, same_on, shortest
 from corestore.asks import is_way, least_question, telling, way, within
 from corestore.behind import has_through, is_behind, through
 from corestore.books import is_book, is_rule, is_source
+from corestore.booktexts import book_text, read_book
 from corestore.changes import fewest, needless, news
 from corestore.cores import blocks, core, folding, is_folding
 from corestore.desk import Handing
-from corestore.errors import CoreError
+from corestore.errors import BadText, Clash, CoreError
 from corestore.handing import has_right, least
 from corestore.leads import is_lead, lead, same
 from corestore.questions import answers, sure
 from corestore.right import broken, is_right
+from corestore.shapes import Shape
 from corestore.stores import is_store, plain, renamed, unknowns
 from corestore.sums import beside, beside_all
+from corestore.talks import Talk
+from corestore.texts import read_store, store_text
 from helper import B, R, S
 
 ROOT = os.path.dirname(os.path.dirname(os.path.abspath(__file__)))
@@ -45,16 +49,24 @@ FUNCTIONS = {
                "has_through": ["first", "second", "source"]},
     "changes": {"needless": ["book", "source"], "fewest": ["book", "source"],
                 "news": ["book", "source", "question", "fact"]},
+    "texts": {"store_text": ["store"], "read_store": ["text"]},
+    "booktexts": {"book_text": ["book"], "read_book": ["text"]},
 }
 CLASSES = {
     "errors": {"CoreError": None, "Clash": [], "BadSource": [], "BadFact": ["value"], "NoFact": ["value"],
                "NothingDone": [], "BadText": ["line", "word"]},
     "desk": {"Handing": ["book", "source"]},
+    "shapes": {"Shape": ["store"]},
+    "talks": {"Talk": ["handing"]},
 }
 # The methods that the interface lists for a class, with their arguments behind self.
 METHODS = {
     ("desk", "Handing"): {"has_right": [], "least": [], "sure": ["question"], "put": ["fact"], "take": ["fact"],
                           "undo": [], "twin": [], "__len__": [], "__eq__": ["other"], "book": None, "source": None},
+    ("shapes", "Shape"): {"leads": ["other"], "answers": ["question"], "__or__": ["other"], "__eq__": ["other"],
+                          "__ne__": ["other"], "__contains__": ["value"], "__len__": [], "__iter__": [],
+                          "store": None},
+    ("talks", "Talk"): {"say": ["line"], "handing": None, "heard": None},
 }
 
 EVE = (("has", "eve", "ann"), ("in", "eve", "rome"))
@@ -71,6 +83,9 @@ COPY = (((QUESTION[1], (("cop", "B"),)),), ())
 TWO = (("emp", "ann", "rome"), ("zoo", "a"))
 P = (("A",), (("has", "A", "B"), ("has", "A", "C"), ("in", "B", "D")))
 Q = (("A",), (("has", "A", "B"),))
+BOOK_TEXT = "emp A B : has C A , in C B\n! in 0\n"
+CLASHING = ((((("q", "A", "B"),), (("v", "A", "B"),)),), (("v", (0,)),))
+CLASHED = (("q", "a", "b"), ("q", "a", "c"))
 # Each function with its arguments, what they are called, and what it returns for them.
 CALLS = (
     (is_store, (S,), ("value",), True),
@@ -118,6 +133,20 @@ CALLS = (
     (needless, (B, TWO), ("book", "source"), TWO[1:]),
     (fewest, (B, TWO), ("book", "source"), ANN),
     (news, (B, (), (("A",), QUESTION[1]), ANN[0]), ("book", "source", "question", "fact"), ((("ann",),), ())),
+    (store_text, (S,), ("store",), "has ?3 ann\nhas ?7 ann\nin ?3 rome\n"),
+    (read_store, ("has ?3 ann\nhas ?7 ann\nin ?3 rome\n",), ("text",), S),
+    (book_text, (KEYED,), ("book",), BOOK_TEXT),
+    (read_book, (BOOK_TEXT,), ("text",), KEYED),
+)
+# Calls that raise an error: each with its arguments, what they are called, the error and its fields.
+FAULTS = (
+    (least, (CLASHING, CLASHED), ("book", "source"), Clash, {}),
+    (sure, (CLASHING, CLASHED, QUESTION), ("book", "source", "question"), Clash, {}),
+    (through, (CLASHING, COPY, CLASHED), ("first", "second", "source"), Clash, {}),
+    (news, (CLASHING, (), QUESTION, CLASHED[0]), ("book", "source", "question", "fact"), None, {}),
+    (news, (CLASHING, CLASHED[1:], QUESTION, CLASHED[0]), ("book", "source", "question", "fact"), Clash, {}),
+    (read_store, ("a b",), ("text",), BadText, {"line": 1, "word": 0}),
+    (read_book, ("",), ("text",), BadText, {"line": 0, "word": 0}),
 )
 
 
@@ -228,6 +257,57 @@ class GeneralTest(unittest.TestCase):
             self.assertTrue(all(type(part) is tuple for part in result))
         self.assertIs(type(broken(B, ANN, ())[1]), int)
 
+    def test_each_function_of_the_interface_is_called(self):
+        called = {(function.__module__, function.__name__) for function, _, _, _ in CALLS}
+        self.assertEqual(called, {("corestore." + module, name) for module in FUNCTIONS for name in FUNCTIONS[module]})
+
+    def test_errors_by_position_and_by_name(self):
+        for function, arguments, names, kind, fields in FAULTS:
+            before = copy.deepcopy(arguments)
+            by_name = dict(reversed(list(zip(names, arguments))))
+            if kind is None:
+                self.assertEqual(function(*arguments), function(**by_name))
+                continue
+            for call in (lambda: function(*arguments), lambda: function(**by_name), lambda: function(*arguments)):
+                with self.assertRaises(kind) as caught:
+                    call()
+                self.assertIs(type(caught.exception), kind)
+                self.assertEqual(vars(caught.exception), fields)
+            self.assertEqual(arguments, before)
+
+    def test_classes_by_position_and_by_name(self):
+        self.assertEqual(Handing(B, source=ANN), Handing(source=ANN, book=B))
+        self.assertEqual(Shape(S), Shape(store=S))
+        one = Handing(B)
+        self.assertIs(Talk(one).handing, Talk(handing=one).handing)
+
+    def test_shapes_and_talks_change_no_argument(self):
+        value = ["emp", ["ann"]]
+        arguments = (S, EVE, Q, ANN, KEYED, value)
+        before = copy.deepcopy(arguments)
+        one, other = Shape(S), Shape(EVE)
+        both = one | other
+        self.assertEqual((both.leads(one), one.leads(both), both.answers(Q), value in both, both == value),
+                         (False, True, (("eve",),), False, False))
+        talk = Talk(Handing(KEYED, source=ANN))
+        for line in (value, "put emp bob rome", "undo", "least", "ask A : has B A"):
+            talk.say(line)
+        self.assertEqual(arguments, before)
+        self.assertEqual((one, other), (Shape(S), Shape(EVE)))
+
+    def test_attributes_are_set_when_an_object_is_created(self):
+        self.assertEqual((Handing(B).book, Handing(B).source, Shape(()).store), (B, (), ()))
+        self.assertEqual((Talk(Handing(B)).handing, Talk(Handing(B)).heard), (Handing(B), ()))
+
+    def test_results_are_passed_on(self):
+        book, source = read_book(BOOK_TEXT), read_store("emp ann rome\n")
+        made = least(book, source)
+        self.assertEqual(read_store(store_text(made)), made)
+        self.assertEqual(Shape(made) | Shape(beside(made, S)), Shape(beside_all((made, S, made))))
+        talk = Talk(Handing(shortest(book), source=fewest(book, source)))
+        self.assertEqual(talk.say("least"), "; ".join(" ".join(fact) for fact in Shape(made)))
+        self.assertEqual(sure(book, source, least_question(P)), answers(least_question(P), made))
+
     def test_a_handing_changes_no_argument(self):
         arguments = (KEYED, ANN, QUESTION, ("emp", "bob", "rome"), ["emp"])
         before = copy.deepcopy(arguments)
@@ -263,6 +343,8 @@ class GeneralTest(unittest.TestCase):
             "print(answers((('A', 'B'), (('v', 'A', 'C'), ('v', 'D', 'B'))), least(b, t)));"
             "from corestore.asks import *; from corestore.sums import *; from corestore.changes import *;"
             "q = (('A',), (('v', 'A', 'B'), ('v', 'A', 'C'), ('v', 'C', 'C')));"
+            "from corestore.shapes import *; from corestore.texts import *; from corestore.booktexts import *;"
+            "print(list(Shape(s) | Shape(s[1:])), repr(store_text(s)), read_book(book_text(b)));"
             "print(way(q, q), telling(q[:1] + (q[1][:1],), q), least_question(q), beside(s, s[:2]), fewest(b, t));"
             "print(parting(b, ((((('p', 'A'), ('p', 'B')), (('v', 'A', 'B'),)),), b[1])), shortest((b[0] * 3, b[1])))")
         shown = set()
